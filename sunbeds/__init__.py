@@ -1,0 +1,1 @@
+"""A garden laid out: where each of a few plants is put."""
