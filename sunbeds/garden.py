@@ -1,4 +1,4 @@
-"""The garden that a line's calls are about, and what each call answers."""
+"""The garden that a line's calls are about: what is told of it, and what it refuses to be told."""
 
 NOT_AS_TOLD = -1
 NO_SUCH_PLACE = -2
@@ -14,10 +14,16 @@ MOST_HOURS = 8
 MOST_PLANTS = 3
 MOST_WORTH = 100000
 LAST_KIND = 5
+MOST_LIKED = 9
 
 
 def within(number, least, greatest):
     return least <= number <= greatest
+
+
+def in_order(kind, other):
+    """One key for two kinds, whichever is told first."""
+    return (min(kind, other), max(kind, other))
 
 
 class Hour:
@@ -56,6 +62,7 @@ class Garden:
         self.heights = [0] * self.places
         self.hours = []
         self.plants = []
+        self.likings = {}
 
     def begins(self, rows, columns, can, longest_way):
         if not within(rows * columns, 1, MOST_PLACES):
@@ -98,3 +105,33 @@ class Garden:
             return NO_MORE
         self.plants.append(Plant(high, needed_hours, worth, kind, water))
         return len(self.plants) - 1
+
+    def like(self, kind, other, much):
+        return self.tell_of_kinds(kind, other, much, 1)
+
+    def dislike(self, kind, other, much):
+        return self.tell_of_kinds(kind, other, much, -1)
+
+    def tell_of_kinds(self, kind, other, much, sign):
+        if not within(kind, 1, LAST_KIND) or not within(other, 1, LAST_KIND) or much > MOST_LIKED:
+            return NOT_AS_TOLD
+        self.likings[in_order(kind, other)] = sign * much
+        return 0
+
+    def tap(self, place):
+        if place >= self.places:
+            return NO_SUCH_PLACE
+        self.tap_place = place
+        return 0
+
+    def liking(self, kind, other):
+        return self.likings.get(in_order(kind, other), 0)
+
+    def planted(self, plan):
+        """The numbers of the plants that the plan doesn't leave nowhere."""
+        return [number for number in range(len(plan)) if plan[number] < self.places]
+
+    def steps(self, place, other):
+        rows_between = abs(place // self.columns - other // self.columns)
+        columns_between = abs(place % self.columns - other % self.columns)
+        return rows_between + columns_between

@@ -1,12 +1,18 @@
 """A line's calls, read from one list of whole numbers, and their answers as another."""
 
 from sunbeds.garden import Garden
+from sunbeds.plans import best, check
 
 BEGINS = 0
 LEVEL = 1
 STANDS = 2
 HOUR = 3
 PLANT = 4
+LIKE = 5
+DISLIKE = 6
+TAP = 7
+CHECK = 8
+BEST = 9
 
 
 def answers(calls):
@@ -35,4 +41,14 @@ def answer_call(garden, call, numbers):
         return [garden.hour(numbers[0], numbers[1])]
     if call == PLANT:
         return [garden.plant(numbers[0], numbers[1], numbers[2], numbers[3], numbers[4])]
+    if call == LIKE:
+        return [garden.like(numbers[0], numbers[1], numbers[2])]
+    if call == DISLIKE:
+        return [garden.dislike(numbers[0], numbers[1], numbers[2])]
+    if call == TAP:
+        return [garden.tap(numbers[0])]
+    if call == CHECK:
+        return check(garden, numbers)
+    if call == BEST:
+        return best(garden)
     raise NotImplementedError(f"call {call}")

@@ -29,24 +29,58 @@ def plant(high=10, hours=1, worth=100, kind=1, water=1):
     return written(4, high, hours, worth, kind, water)
 
 
+def like(kind, other, much):
+    return written(5, kind, other, much)
+
+
+def dislike(kind, other, much):
+    return written(6, kind, other, much)
+
+
+def tap(place):
+    return written(7, place)
+
+
+def check(*plan):
+    return written(8, *plan)
+
+
+def best():
+    return written(9)
+
+
 def joined(calls):
     return [number for call in calls for number in call]
 
 
-def taken_apart(answered):
+def taken_apart(numbers):
     parts = []
     at = 0
-    while at < len(answered):
-        behind = at + 1 + answered[at]
-        parts.append(answered[at + 1:behind])
+    while at < len(numbers):
+        behind = at + 1 + numbers[at]
+        parts.append(numbers[at + 1:behind])
         at = behind
     return parts
+
+
+def answered(*calls):
+    """Each call's answer, a list of numbers."""
+    return taken_apart(answers(joined(calls)))
+
+
+def last(*calls):
+    """The last call's answer; none ahead of it is to be refused."""
+    parts = answered(*calls)
+    for part in parts[:-1]:
+        if part[0] < 0:
+            raise AssertionError(f"refused: {part}")
+    return parts[-1]
 
 
 def asked(*calls):
     """The first number of each call's answer; each of these calls answers one alone."""
     firsts = []
-    for part in taken_apart(answers(joined(calls))):
+    for part in answered(*calls):
         if len(part) != 1:
             raise AssertionError(f"not one number alone: {part}")
         firsts.append(part[0])

@@ -1,4 +1,4 @@
-"""What a garden keeps of what it was told: no answer of these calls shows it."""
+"""What a garden keeps of what it was told, and that a refusal leaves all of it as it was."""
 
 import copy
 import unittest
@@ -21,7 +21,9 @@ def told_garden():
     garden.stands(1, 30)
     garden.hour(6, 7)
     garden.plant(40, 1, 500, 2, 3)
-    garden.tap_place = 5
+    garden.like(4, 2, 6)
+    garden.dislike(3, 3, 9)
+    garden.tap(5)
     return garden
 
 
@@ -29,7 +31,7 @@ class GardenKeeps(unittest.TestCase):
     def test_the_beginning(self):
         self.assertEqual(kept(Garden()), {
             "rows": 1, "columns": 1, "places": 1, "can": 1, "longest_way": 0, "tap_place": 0,
-            "levels": [0], "heights": [0], "hours": [], "plants": [],
+            "levels": [0], "heights": [0], "hours": [], "plants": [], "likings": {},
         })
 
     def test_all_that_is_told(self):
@@ -38,6 +40,7 @@ class GardenKeeps(unittest.TestCase):
             "levels": [0, 0, 0, 0, 20, 0], "heights": [0, 30, 0, 0, 0, 0],
             "hours": [{"whence": 6, "rise": 7}],
             "plants": [{"high": 40, "needed_hours": 1, "worth": 500, "kind": 2, "water": 3}],
+            "likings": {(2, 4): 6, (3, 3): -9},
         })
 
     def test_what_was_told_of_a_place_before_is_told_no_more(self):
@@ -54,7 +57,7 @@ class GardenKeeps(unittest.TestCase):
         self.assertEqual(garden.begins(4, 2, 1000, 1000), 0)
         self.assertEqual(kept(garden), {
             "rows": 4, "columns": 2, "places": 8, "can": 1000, "longest_way": 1000, "tap_place": 0,
-            "levels": [0] * 8, "heights": [0] * 8, "hours": [], "plants": [],
+            "levels": [0] * 8, "heights": [0] * 8, "hours": [], "plants": [], "likings": {},
         })
 
 
@@ -77,6 +80,10 @@ class GardenRefusedIsAsItWas(unittest.TestCase):
         self.assert_refused(garden, -1, "hour", 0, 1001)
         for numbers in ((0, 0, 0, 1, 1), (1, 9, 0, 1, 1), (1, 0, 100001, 1, 1), (1, 0, 0, 6, 1), (1, 0, 0, 1, 6)):
             self.assert_refused(garden, -1, "plant", *numbers)
+        for call in ("like", "dislike"):
+            for numbers in ((0, 2, 1), (6, 2, 1), (4, 0, 1), (4, 6, 1), (4, 2, 10), (3, 3, 10)):
+                self.assert_refused(garden, -1, call, *numbers)
+        self.assert_refused(garden, -2, "tap", 6)
 
     def test_no_more_hours_or_plants(self):
         garden = told_garden()
